@@ -1,0 +1,1 @@
+"""Touchtowers: branches of plane curves through one point, told by words."""

@@ -1,0 +1,1 @@
+"""Integers, polynomials in t, and tables modulo a prime."""

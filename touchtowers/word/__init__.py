@@ -1,0 +1,1 @@
+"""Points, words, branches, and their ways."""
