@@ -120,3 +120,13 @@ def small_branches(prime, most):
 
 FEW_PRIMES = (2, 3, 5, 31)
 assert set(FEW_PRIMES) <= set(PRIMES)
+
+
+def numbers_made(seed, many, below):
+    """Numbers from 0 on that look mixed, the same at each run."""
+    found = []
+    state = seed + 1
+    for _ in range(many):
+        state = (state * 6364136223846793005 + 1442695040888963407) % 2 ** 64
+        found.append((state >> 33) % below)
+    return found

@@ -38,6 +38,12 @@ def check_prime(prime):
         raise InvalidPrime("not one of the primes from 2 to 31")
 
 
+def check_equal_primes(one, other):
+    """Refuse two objects over unlike primes."""
+    if one.prime != other.prime:
+        raise InvalidOperation("the primes are not equal")
+
+
 def is_residue(prime, value):
     """Whether the value is a residue of the prime."""
     check_prime(prime)
@@ -51,8 +57,7 @@ def is_letter(prime, value):
 
 
 def are_residues(prime, value):
-    """Whether the value is a tuple of residues of the prime."""
-    check_prime(prime)
+    """Whether the value is a tuple of residues of a valid prime."""
     return isinstance(value, tuple) and all([is_between(entry, 0, prime - 1) for entry in value])
 
 

@@ -1,6 +1,6 @@
 """Points, words, and the branches that words tell."""
 
-from touchtowers.base.numbers import check_between, check_prime, is_between
+from touchtowers.base.numbers import check_between, check_equal_primes, check_prime, is_between
 from touchtowers.errors import InvalidOperation, InvalidPoint, InvalidWord, ParseError, TooMany
 
 TURN = -1
@@ -19,7 +19,7 @@ def is_point(prime, value):
 
 
 def check_point(prime, point):
-    """Refuse all but the points over the prime."""
+    """Refuse all but primes with their points."""
     if not is_point(prime, point):
         raise InvalidPoint("not a point over the prime")
 
@@ -43,7 +43,6 @@ def text_of_letters(letters):
 
 def point_text(prime, point):
     """The text of a point."""
-    check_prime(prime)
     check_point(prime, point)
     return text_of_letters(point)
 
@@ -72,7 +71,6 @@ def without_last_zeros(letters):
 
 def word_through(prime, point):
     """The word of the branch that goes through the point with letters 0 behind it."""
-    check_prime(prime)
     check_point(prime, point)
     word = without_last_zeros(point)
     if not ends_as_word(word):
@@ -89,7 +87,6 @@ class Branch:
     """A branch, told by a prime and a word. It never changes."""
 
     def __init__(self, prime, word):
-        check_prime(prime)
         if not is_word(prime, word):
             raise InvalidWord("not a word over the prime")
         self._prime = prime
@@ -156,8 +153,7 @@ def check_branches(one, other):
     """Refuse all but two branches over one prime."""
     check_branch(one)
     check_branch(other)
-    if one.prime != other.prime:
-        raise InvalidOperation("the branches are over unlike primes")
+    check_equal_primes(one, other)
 
 
 def shared_height(one, other):

@@ -1,0 +1,1 @@
+"""Points above the origin, and what branches do there."""
