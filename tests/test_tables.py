@@ -174,18 +174,23 @@ class TablesTest(PlainTest):
             self.same(bar_of(prime, upper, goal), None)
 
     def test_great_mixed_tables(self):
-        made = numbers_made(7, 400 * 400, 31)
-        half = [tuple(made[400 * at:400 * at + 400]) for at in range(200)]
-        table = tuple(half) + tuple(half[::-1])
-        self.same(rank(31, table), 200)
-        lines, found = echelon(31, table), kernel(31, table)
-        self.assertTrue(is_echelon(lines[:20]) and is_echelon(found[:20]))
-        self.same((len(lines), len(found)), (200, 200))
-        self.assertFalse(any(makes(31, line, value) for line in table[::20] for value in found[::10]))
-        self.same(rank(31, tuple(half) + lines), 200)
-        goal = (1,) + (0,) * 399
-        self.same(solved(31, table, goal), None)
-        self.assertIs(is_bar(31, table, goal, bar_of(31, table, goal)), True)
+        for prime, size in ((2, 400), (3, 200), (31, 400)):
+            made = numbers_made(7, size * size // 2, prime)
+            half = [tuple(made[size * at:size * at + size]) for at in range(size // 2)]
+            table = tuple(half) + tuple(half[::-1])
+            lines, found = echelon(prime, table), kernel(prime, table)
+            self.assertTrue(is_echelon(lines[:20]) and is_echelon(found[:20]))
+            self.same((rank(prime, table), len(found)), (len(lines), size - len(lines)))
+            self.assertFalse(any(makes(prime, line, value) for line in table[::20] for value in found[::10]))
+            # The lines of the echelon are mixes of the table, and those of the table are mixes of the echelon.
+            self.same(rank(prime, tuple(half) + lines), len(lines))
+            firsts = [line.index(1) for line in lines]
+            for line in half[::20]:
+                mix = [makes(prime, [line[first] for first in firsts], column) for column in zip(*lines)]
+                self.same(mix, list(line))
+            goal = (1,) + (0,) * (size - 1)
+            self.same(solved(prime, table, goal), None)
+            self.assertIs(is_bar(prime, table, goal, bar_of(prime, table, goal)), True)
 
     def test_not_true(self):
         # [2.6]: lines that are no mixes of those ahead of them need not be the echelon; unlike tables with one kernel.
