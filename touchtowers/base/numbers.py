@@ -12,8 +12,18 @@ NAME_LETTERS = "abcdefghijklmnopqrstuvwxyz"
 
 def is_integer(value):
     """Whether the value is an integer of at most sixty digits."""
+    return is_whole(value) and abs(value) < 10 ** 60
+
+
+def is_whole(value):
+    """Whether the value is an integer, however long."""
     # True and False are values of int, too.
-    return isinstance(value, int) and not isinstance(value, bool) and abs(value) < 10 ** 60
+    return isinstance(value, int) and not isinstance(value, bool)
+
+
+def are_whole(value):
+    """Whether the value is a tuple of integers, however long."""
+    return isinstance(value, tuple) and all([is_whole(entry) for entry in value])
 
 
 def is_between(value, least, most):

@@ -1,0 +1,1 @@
+"""Kinds of branches: those with equal generators."""

@@ -1,0 +1,1 @@
+"""The integers that tell what polynomials do on a branch: generators, orders, exponents."""

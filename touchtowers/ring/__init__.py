@@ -1,0 +1,1 @@
+"""Rings of branches, cut at sizes."""
