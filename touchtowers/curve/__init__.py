@@ -1,0 +1,1 @@
+"""Curves of several branches, and what matches them."""

@@ -1,0 +1,1 @@
+"""Weights on points."""
