@@ -133,14 +133,18 @@ class RingTest(PlainTest):
         # Each tuple of series of at least these orders is an element, and none of the integers can be less.
         for branches in TUPLES:
             least = conductor_of(branches)
+            sizes = tuple(size + 2 for size in least)
+            table = naive_table(branches, sizes)
+            self.same(ring_table(branches, sizes), table)
             zero = [Row(branches[0].prime, ())] * len(branches)
             for at, size in enumerate(least):
-                for power in range(size, size + 5):
+                for power in range(max(0, size - 1), size + 2):
+                    unit = [0] * sum(sizes)
+                    unit[sum(sizes[:at]) + power] = 1
+                    wanted = power >= size
+                    self.assertIs(tuple(unit) in table, wanted)
                     row = Row(branches[0].prime, (0,) * power + (1,))
-                    self.assertIs(is_in_ring(branches, tuple(zero[:at] + [row] + zero[at + 1:])), True)
-                if size > 0:
-                    row = Row(branches[0].prime, (0,) * (size - 1) + (1,))
-                    self.assertIs(is_in_ring(branches, tuple(zero[:at] + [row] + zero[at + 1:])), False)
+                    self.assertIs(is_in_ring(branches, tuple(zero[:at] + [row] + zero[at + 1:])), wanted)
 
     def test_elements(self):
         # [8.1]: what comes from polynomials, their sums and products.
