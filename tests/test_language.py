@@ -236,6 +236,20 @@ class LanguageTest(unittest.TestCase):
         for name, decorators in methods.items():
             self.assertTrue(all(one == decorators[0] for one in decorators), name)
 
+    def test_properties(self):
+        properties, methods, assigned = set(), set(), set()
+        for path, tree in each_file():
+            for kind in classes(tree):
+                for node in kind.body:
+                    if isinstance(node, ast.FunctionDef):
+                        signs = [sign.id for sign in node.decorator_list]
+                        (properties if "property" in signs else methods).add(node.name)
+            assigned |= {node.attr for node in ast.walk(tree)
+                         if isinstance(node, ast.Attribute) and isinstance(node.ctx, ast.Store)}
+        self.assertFalse(properties & assigned, "a property is assigned")
+        self.assertFalse(properties & methods, "a name is a property and a method")
+        self.assertFalse(methods & assigned, "a name is a method and an attribute")
+
     def check_method(self, node):
         if node.name.startswith("__"):
             self.assertIn(node.name, DUNDERS)
