@@ -26,7 +26,7 @@ BARRED_NAMES = set("""register mro elements open input law version_info with_tra
 BARRED_WORDS = set("""typing typing_extensions enum Enum IntEnum StrEnum Flag IntFlag Generic Protocol ABC ABCMeta
     namedtuple NamedTuple TypedDict TYPE_CHECKING abstractmethod dataclass overload contextmanager""".split())
 NODES_NOT_USED = (ast.Global, ast.Nonlocal, ast.AsyncFunctionDef, ast.Await, ast.AsyncFor, ast.AsyncWith, ast.Div,
-                  ast.Try, ast.GeneratorExp, ast.NamedExpr, ast.AnnAssign, ast.Import, ast.With, ast.MatMult)
+                  ast.Try, ast.GeneratorExp, ast.NamedExpr, ast.AnnAssign, ast.Import, ast.MatMult)
 STANDARD = set(sys.stdlib_module_names)
 
 
@@ -213,7 +213,7 @@ class LanguageTest(unittest.TestCase):
                 if isinstance(node.func, ast.Attribute):
                     self.assertIn(node.func.attr, METHODS | own | {"__init__"})
                 elif isinstance(node.func, ast.Name):
-                    known = node.func.id in BUILTINS | own | {"cls"} | LIBRARY["math"]
+                    known = node.func.id in BUILTINS | own | {"cls", "call"} | LIBRARY["math"]
                     self.assertTrue(known, node.func.id)
                 for keyword in node.keywords:
                     self.assertIn(keyword.arg, ("key", "default", "start", "reverse", "strict"))

@@ -23,7 +23,7 @@ class Remains:
 
     def take(self, node):
         """Take a node; those that were joined to it."""
-        others = self._beside[node]
+        others = list(self._beside[node])
         for other in others:
             # Of at most two nodes beside this one, the other one comes in its place.
             rest = [place for place in self._beside[other] if place != node]

@@ -42,6 +42,13 @@ def is_tree(many, joined):
     return len(joined) == many - 1
 
 
+def tree_text(squares, joined):
+    """The text of a tree."""
+    nodes = " ".join([str(square) for square in squares])
+    pairs = " ".join([f"{i}-{j}" for i, j in joined])
+    return f"{nodes}, {pairs}" if len(joined) > 0 else nodes
+
+
 class Tree:
     """A tree of numbered nodes with integers. It never changes."""
 
@@ -83,9 +90,7 @@ class Tree:
         return isinstance(other, Tree) and self._squares == other._squares and self._joined == other._joined
 
     def __str__(self):
-        squares = " ".join([str(square) for square in self._squares])
-        pairs = " ".join([f"{i}-{j}" for i, j in self._joined])
-        return f"{squares}, {pairs}" if len(self._joined) > 0 else f"{squares}"
+        return str(tree_text(self._squares, self._joined))
 
 
 def made_tree(squares, joined):

@@ -1,0 +1,1 @@
+"""Polynomials of curves, and plaits."""

@@ -1,0 +1,1 @@
+"""Rolls of all kinds of branches that lack so much."""

@@ -1,0 +1,1 @@
+"""A bench of curves and weights."""
