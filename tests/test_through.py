@@ -1,6 +1,7 @@
 """[0.6], [0.19], [12.1] to [12.5], and touchtowers.weight.planes."""
 
 from itertools import combinations, product
+from math import comb
 
 from touchtowers.errors import InvalidCount, InvalidOperation, InvalidPlane, InvalidPoint, InvalidWeights, TooMany
 from touchtowers.tower.points import count_at_point
@@ -157,6 +158,18 @@ class OrderTest(PlainTest):
         self.same([order_at(part, (3, 26) + (0,) * height) for height in (0, 9, 58)], [9, 36, 183])
         self.raised(TooMany(200), order_at, power.multiplied(line), (3, 26) + (0,) * 58)
 
+    def test_dense_powers(self):
+        # No binomial number of this power leaves 0, and all terms but one cancel one another.
+        for prime, residue in ((31, 3), (29, 11)):
+            power = 3 * prime - 1
+            entries = [comb(power, k) * (-residue) ** (power - k) % prime for k in range(power + 1)]
+            plane = Plane(prime, {(power - k, k): entry for k, entry in enumerate(entries)})
+            self.same([len(plane), order_at(plane, ()), order_at(plane, (residue,)), order_at(plane, (residue, 1))],
+                      [power + 1, power, 2 * power, 2 * power])
+            self.same(order_at(plane, (residue + 1,)), power)
+            self.assertIs(is_through(Weights(prime, {(): power, (residue,): power}), plane), True)
+            self.assertIs(is_through(Weights(prime, {(): power, (residue,): power, (residue, 1): 1}), plane), False)
+
     def test_refuses(self):
         self.refused(InvalidPlane, order_at, (X, ()), 0, NO_PLANES)
         self.refused(InvalidPlane, order_at, (X, None), 0, NO_PLANES)
@@ -264,6 +277,19 @@ class SpaceTest(PlainTest):
                     if degree >= total - 1:
                         self.same(found, told)
         self.same(conditions(Weights(3, {(): 20, (1,): 1}), 20), 211)
+
+    def test_great_spaces(self):
+        for prime in (29, 31):
+            for amounts in ((11, 10), (7, 7, 7), (6, 5, 5, 5), (19, 1, 1), (21, 0)):
+                point = (7, 12, 5)
+                weights = Weights(prime, {point[:height]: amount for height, amount in enumerate(amounts)})
+                basis = through(weights, 20)
+                self.same([weights.is_let, conditions(weights, 20), len(basis)], [True, weights.conditions, 231 - weights.conditions])
+                for plane in basis[::9]:
+                    for below, worth in weights.worths.items():
+                        self.assertGreaterEqual(order_at(plane, below), worth)
+                self.assertIs(is_basis_through(weights, 20, basis), True)
+                self.assertIs(is_basis_through(weights, 20, basis[1:] + (Plane(prime, {(20, 0): 1, (0, 20): 5}),)), False)
 
     def test_spaces(self):
         for prime in (2, 3, 5, 31):

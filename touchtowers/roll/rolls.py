@@ -82,37 +82,26 @@ def equal_runs(row):
     return runs[::-1]
 
 
-def followers(row):
-    """For each integer of a row how many of those behind it add up to it, as [15.2] says; 0 if that is not so.
+def is_sum_of_next(row, runs, index):
+    """Whether the integer at an index is the sum of some that follow it, as [15.2] says.
 
-    Integers 1 go on behind the row, whose last integer is 1.
+    The runs tell how many equal integers stand side by side. Integers 1 go on behind the row.
     """
-    runs = equal_runs(row)
-    found = []
-    for count, following, run, index in zip(row, row[1:], runs[1:], range(len(row))):
-        many, rest = divmod(count, following)
-        if following == 1:
-            found.append(many)
-        elif rest == 0:
-            found.append(many if many <= run else 0)
-        else:
-            found.append(many + 1 if many == run and row[index + 1 + run] == rest else 0)
-    return found + [1]
+    following, run = row[index + 1], runs[index + 1]
+    many, rest = divmod(row[index], following)
+    if following == 1:
+        return True
+    if rest == 0:
+        return many <= run
+    return many == run and row[index + 1 + run] == rest
 
 
 def is_row(row):
     """Whether a tuple of integers of at least 2, and of 1 at its end, is a count row."""
-    many = followers(row)
-    if 0 in many:
-        return False
-    nearest = None
-    for index in range(len(row) - 1, -1, -1):
-        # Of those behind this one, the nearest one with several followers is the first one that may be wrong.
-        if nearest is not None and nearest + 2 <= index + many[index]:
-            return False
-        if many[index] > 1:
-            nearest = index
-    return True
+    runs = equal_runs(row)
+    # Those that add up to one, but for the last two of them, have an equal one behind them. So it is sure that each
+    # of these is the sum of just one integer.
+    return all([is_sum_of_next(row, runs, index) for index in range(len(row) - 1)])
 
 
 def is_count_row(value):

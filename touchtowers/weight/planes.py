@@ -99,7 +99,7 @@ def is_basis_through(weights, degree, value):
         return False
     if any([plane.degree > degree for plane in value]) or not are_independent(prime, degree, value):
         return False
-    return len(value) == 0 or len(conditions_on(weights, value)) == 0
+    return len(conditions_on(weights, value)) == 0
 
 
 def least_plane(weights, degree):
